@@ -5,8 +5,8 @@ from stackwords.refusals import NoLoop, WrongNumber
 from stackwords.things import ARRAY, NUMBER, PROCEDURE, TRUTH, drop, want_kinds
 
 
+# The frame first: if it finds no room, the stack must stay as it is.
 def enter(machine, how_many, frame):
-    """Put the frame on the pile and take so many things off the stack."""
     machine.put_frame(frame)
     drop(machine.stack, how_many)
 

@@ -4,8 +4,6 @@ from stackwords.things import NUMBER, WORD
 
 
 class RunFrame:
-    """The frame of a text or of a procedure."""
-
     def __init__(self, things):
         self.things = things
         self.place = 0
@@ -22,9 +20,8 @@ class RunFrame:
             machine.push(thing)
 
 
+# The other loops' frames stand under this one, so that exit finds them all alike.
 class LoopFrame:
-    """The frame of loop; the other loops' frames stand under it."""
-
     def __init__(self, body):
         self.body = body
 

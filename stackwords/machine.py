@@ -41,8 +41,8 @@ class Machine:
         self.check_frame_room()
         self.pile.append(frame)
 
+    # The name's thing by the open tables, or None.
     def look_up(self, name):
-        """The name's thing by the open tables, or None."""
         tables = self.store.tables
         for table in reversed(self.opened):
             thing = tables[table].get(name)
@@ -83,7 +83,6 @@ class Machine:
         return 1 if pile else 0
 
     def run(self, steps, most, text):
-        """What went wrong, or 1 if anything is left to be done, or 0; what was said is told by the machine."""
         self.most = most
         self.said = []
         self.said_in_all = 0

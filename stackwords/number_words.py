@@ -96,8 +96,8 @@ def do_eq(machine):
     put_for(stack, 2, (TRUTH, alike and stack[-2][1] == stack[-1][1]))
 
 
+# The kind is given back, as Python's bit operators serve truths and numbers alike.
 def want_bits(stack, how_many):
-    """Refuse unless the uppermost so many are all truths or all numbers; else tell which."""
     want(stack, how_many)
     kind = stack[-1][0]
     if kind not in (NUMBER, TRUTH) or stack[-how_many][0] != kind:

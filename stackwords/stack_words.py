@@ -21,8 +21,8 @@ def do_dup(machine):
     machine.push(machine.stack[-1])
 
 
+# Asked behind the kinds, though it may answer -3: only of a number is it known how many are told.
 def want_told(stack, besides, told):
-    """Refuse unless, besides so many things, as many as are told are on the stack."""
     if told > len(stack) - besides:
         raise TooFew()
     if told < 0:
@@ -75,7 +75,6 @@ def do_mark(machine):
 
 
 def above_mark(stack):
-    """How many things are above the last mark."""
     place = len(stack) - 1
     while place >= 0 and stack[place][0] != MARK:
         place -= 1

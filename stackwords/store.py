@@ -17,8 +17,8 @@ class State:
         self.tables = tables
         self.held = held
 
+    # Whether the thing would be no more if this state were brought back.
     def lacks(self, thing):
-        """Whether the thing would be no more if this state were brought back."""
         if thing[0] == ARRAY:
             return thing[1] >= len(self.arrays)
         if thing[0] == TABLE:

@@ -66,7 +66,6 @@ def do_array(machine):
 
 
 def held_by(machine, thing):
-    """The row of an array's things, or the dict of a table's."""
     if thing[0] == ARRAY:
         return machine.store.arrays[thing[1]]
     if thing[0] == TABLE:
@@ -123,8 +122,8 @@ def do_keep(machine):
     machine.push(machine.store.keep_state())
 
 
+# All that must outlast a state that is brought back: below it on the stack, open, or walked by a forall.
 def things_in_use(machine):
-    """All that must outlast a state that is brought back: below it on the stack, open, or walked by a forall."""
     walked = [frame.array for frame in machine.pile if isinstance(frame, ForallFrame)]
     return machine.stack[:-1] + [(TABLE, table) for table in machine.opened] + walked
 

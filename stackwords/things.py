@@ -37,8 +37,8 @@ def want(stack, how_many):
         raise TooFew()
 
 
+# Refuse unless the uppermost things are of these kinds, the topmost of the last of them.
 def want_kinds(stack, kinds):
-    """Refuse unless the uppermost things are of these kinds, the topmost of the last of them."""
     want(stack, len(kinds))
     place = len(stack) - len(kinds)
     for kind in kinds:
@@ -47,8 +47,8 @@ def want_kinds(stack, kinds):
         place += 1
 
 
+# Put the thing on the stack in the place of the uppermost so many.
 def put_for(stack, how_many, thing):
-    """Put the thing on the stack in the place of the uppermost so many."""
     drop(stack, how_many)
     stack.append(thing)
 

@@ -133,6 +133,8 @@ class Code(unittest.TestCase):
             if isinstance(node, ast.stmt):
                 self.assertIsInstance(node, STATEMENTS, where)
             self.assertNotIsInstance(node, NEVER, where)
+            if isinstance(node, ast.Expr) and node.lineno > 1:
+                self.assertIsInstance(node.value, ast.Call, where)
             if isinstance(node, ast.Assign):
                 self.assertEqual(len(node.targets), 1, where)
             if isinstance(node, (ast.For, ast.While)):
@@ -170,7 +172,7 @@ class Code(unittest.TestCase):
             self.assertLessEqual(len(node.bases), 1, where)
             self.assertEqual((node.decorator_list, node.keywords), ([], []), where)
             for part in node.body:
-                self.assertTrue(isinstance(part, ast.FunctionDef) or ast.get_docstring(node) is not None, where)
+                self.assertIsInstance(part, ast.FunctionDef, where)
 
     def test_handlers(self):
         own = {node.name for _, node in nodes(ast.ClassDef)}
